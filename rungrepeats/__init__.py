@@ -1,0 +1,1 @@
+"""Rungrepeats: rungs that repeat, on any number of posts."""
