@@ -10,7 +10,8 @@ NAMES = [
 BELOW = [getattr(errors, name) for name in NAMES]
 ALL = [errors.RungError] + BELOW
 VALUES = [
-    None, True, False, 0, -7, 10 ** 30, "", "-.-", [], ["-.", [1]], (), (1, [2]), {}, {"a": [1]}, object(), ValueError("x"),
+    None, True, False, 0, -7, 10 ** 30, "", "-.-", [], ["-.", [1]], (), (1, [2]), {}, {"a": [1]},
+    object(), ValueError("x"),
 ]
 
 
