@@ -15,7 +15,19 @@ def check_post(post, n):
         raise InvalidPost(post)
 
 
+def check_half_post(post):
+    """Refuse a post that is not on the half row."""
+    if post < 0:
+        raise InvalidPost(post)
+
+
 def check_number(number):
     """Refuse a number below 0."""
     if number < 0:
         raise InvalidNumber(number)
+
+
+def check_length(length):
+    """Refuse a number that no ring has as its length."""
+    if length < 1:
+        raise InvalidNumber(length)

@@ -2,8 +2,8 @@
 
 from math import lcm
 
-from rungrepeats.checks import check_number, check_size
-from rungrepeats.errors import InvalidPost, InvalidRow, InvalidSize
+from rungrepeats.checks import check_half_post, check_number, check_size
+from rungrepeats.errors import InvalidRow, InvalidSize
 
 
 def _is_row(text):
@@ -67,8 +67,7 @@ class Rule:
     def has_rung(self, row, post):
         """Return True if there is a rung between a post and the next one in a row, otherwise False."""
         check_number(row)
-        if post < 0:
-            raise InvalidPost(post)
+        check_half_post(post)
         return self._rows[row % self.height][post % self.width] == "-"
 
     def mirrored(self, n):
