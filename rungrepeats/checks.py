@@ -27,7 +27,7 @@ def check_number(number):
         raise InvalidNumber(number)
 
 
-def check_length(length):
-    """Refuse a number that no ring has as its length."""
-    if length < 1:
-        raise InvalidNumber(length)
+def check_positive(number):
+    """Refuse a number below 1."""
+    if number < 1:
+        raise InvalidNumber(number)

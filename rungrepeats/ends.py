@@ -33,36 +33,18 @@ def turns(rule):
     return sorted(told)
 
 
-def _ring_length(ground, post):
-    """Return the length of the ring of a post on the half row, None if the walker goes off for ever."""
-    gone = ground.to_end(HALF, post)
-    if gone is None:
-        return ground.course.ring_length(post)
-    ring = ground.end_ring(HALF, gone[1])
-    return None if ring is None else ring[0]
-
-
 def half_after(rule, post, rounds):
     """Return where a walker from a post stands on the half row after so many rounds."""
     check_half_post(post)
     check_number(rounds)
-    ground = Ground(rule)
-    length = _ring_length(ground, post)
-    more = rounds if length is None else rounds % length
-    at = post
-    gone = ground.to_end(HALF, at)
-    while gone is not None and gone[0] < more:
-        more = more - gone[0] - 1
-        at = ground.after_round(HALF, gone[1])
-        gone = ground.to_end(HALF, at)
-    return ground.course.place(at, more)
+    return Ground(rule).after_rounds(HALF, post, rounds)
 
 
 def half_ring(rule, post):
     """Return the ring of a post on the half row, from this post on, None if the walker goes off for ever."""
     check_half_post(post)
     ground = Ground(rule)
-    length = _ring_length(ground, post)
+    length = ground.length_at(HALF, post)
     if length is None:
         return None
     ring = [post]

@@ -2,7 +2,7 @@
 
 from math import lcm
 
-from rungrepeats.checks import check_half_post, check_length, check_size
+from rungrepeats.checks import check_half_post, check_positive, check_size
 from rungrepeats.grounds import Ground
 from rungrepeats.lines import Lines
 from rungrepeats.periods import told_by_rests
@@ -48,7 +48,7 @@ def _least_k(form, length):
 
 def first_with(rule, length):
     """Return the least n for which some ring has a length, None if there is none."""
-    check_length(length)
+    check_positive(length)
     lines = Lines(rule)
     for n in range(1, lines.first):
         if length in [told for told, _ in lines.ground.sizes(n)]:

@@ -62,6 +62,17 @@ class Ground:
             return None
         return (rounds, self.course.place(post, rounds))
 
+    def rounds_ahead(self, n, post, other):
+        """Return the least number of rounds after which a walker from a post stands at another one.
+
+        None if this is not on the way to the first post near an end.
+        """
+        rounds = self.course.rounds_between(post, other)
+        gone = self.to_end(n, post)
+        if rounds is None or (gone is not None and rounds > gone[0]):
+            return None
+        return rounds
+
     def end_ring(self, n, post):
         """Return the length of the ring of a post near an end, and the list of its posts near an end, from it on.
 
@@ -76,6 +87,26 @@ class Ground:
             length = length + 1 + gone[0]
             posts.append(gone[1])
         return (length, posts[:-1])
+
+    def length_at(self, n, post):
+        """Return the length of the ring of a post, None if the walker goes off for ever."""
+        gone = self.to_end(n, post)
+        if gone is None:
+            return self.course.ring_length(post)
+        ring = self.end_ring(n, gone[1])
+        return None if ring is None else ring[0]
+
+    def after_rounds(self, n, post, rounds):
+        """Return where a walker from a post stands after so many rounds."""
+        length = self.length_at(n, post)
+        more = rounds if length is None else rounds % length
+        at = post
+        gone = self.to_end(n, at)
+        while gone is not None and gone[0] < more:
+            more = more - gone[0] - 1
+            at = self.after_round(n, gone[1])
+            gone = self.to_end(n, at)
+        return self.course.place(at, more)
 
     def end_rings(self, n):
         """Return the rings of a ladder that come near an end, as `end_ring` tells them, from their least posts on."""

@@ -23,19 +23,25 @@ def step_of(rule, post):
     return at - post
 
 
-def lane_from(rule, post):
-    """Return the lane of a post, told from the rest of this post on."""
+def steps_of(rule):
+    """Return, for each rest by the width, by how many posts a walker is moved in one round from posts with it."""
+    return [step_of(rule, rest) for rest in range(rule.width)]
+
+
+def lane_with(steps, post):
+    """Return the lane of a post, told from the rest of this post on, where these are the steps from all rests."""
     rests = []
     at = post
-    while at % rule.width not in rests:
-        rests.append(at % rule.width)
-        at = at + step_of(rule, at)
+    while at % len(steps) not in rests:
+        rests.append(at % len(steps))
+        at = at + steps[at % len(steps)]
     return (rests, at - post)
 
 
 def lanes_of(rule):
     """Return the list of the lanes, tuples (rests, shift), ordered by their first rests."""
-    lanes = [lane_from(rule, rest) for rest in range(rule.width)]
+    steps = steps_of(rule)
+    lanes = [lane_with(steps, rest) for rest in range(len(steps))]
     return [(rests, shift) for rests, shift in lanes if rests[0] == min(rests)]
 
 
@@ -46,7 +52,7 @@ def flow_of(rule):
 
 def drift(rule, post):
     """Return the shift of the lane of a post divided by the number of its rests, as a fraction."""
-    rests, shift = lane_from(rule, post)
+    rests, shift = lane_with(steps_of(rule), post)
     common = gcd(shift, len(rests))
     return (shift // common, len(rests) // common)
 
@@ -54,10 +60,11 @@ def drift(rule, post):
 def inner_after(rule, post, rounds):
     """Return where a walker from a post stands on the endless row after so many rounds."""
     check_number(rounds)
-    rests, shift = lane_from(rule, post)
+    steps = steps_of(rule)
+    rests, shift = lane_with(steps, post)
     at = post + rounds // len(rests) * shift
     for _ in range(rounds % len(rests)):
-        at = at + step_of(rule, at)
+        at = at + steps[at % len(steps)]
     return at
 
 

@@ -162,6 +162,19 @@ def plain_inner(texts, post, rounds):
     return at
 
 
+def plain_walk(texts, n, post, rows):
+    """Walk down so many rows of a ladder, and give the posts of the walker ahead of the first and behind each one."""
+    way = [post]
+    for row in range(rows):
+        at = way[-1]
+        if at + 1 < n and plain_rung(texts, row, at):
+            at += 1
+        elif at > 0 and plain_rung(texts, row, at - 1):
+            at -= 1
+        way.append(at)
+    return way
+
+
 def plain_round(texts, n):
     """Give, for each post, where a walker from it stands after one round."""
     standing = list(range(n))
