@@ -4,14 +4,7 @@ from math import lcm
 
 from rungrepeats.checks import check_half_post, check_number, check_size
 from rungrepeats.errors import InvalidRow, InvalidSize
-
-
-def _is_row(text):
-    """Return True if a text is a row, otherwise False."""
-    if text == "" or text.count("-") + text.count(".") != len(text):
-        return False
-    # The first character also follows the last one, so it is set behind it once more.
-    return "--" not in text + text[0]
+from rungrepeats.marks import is_row
 
 
 def _shifted_row(row, by):
@@ -32,7 +25,7 @@ class Rule:
         if len(texts) == 0:
             raise InvalidSize(0)
         for row in texts:
-            if not _is_row(row) or len(row) != len(texts[0]):
+            if not is_row(row) or len(row) != len(texts[0]):
                 raise InvalidRow(row)
         self._rows = tuple(texts)
 

@@ -4,9 +4,12 @@ import math
 import unittest
 
 from helper import GREAT, HUGE, LATE, SAMPLES, SMALL, plain_rings, plain_round, plain_rung, rules_of_size
+from rungrepeats.alike import first_unlike, same_round
+from rungrepeats.far import ring_length
 from rungrepeats.forms import forms_of, number_for
 from rungrepeats.lanes import flow_of, lanes_of
 from rungrepeats.rules import Rule
+from rungrepeats.signs import is_even
 
 TEXTS = SMALL + GREAT + LATE + SAMPLES
 
@@ -36,6 +39,24 @@ class GuaranteeTests(unittest.TestCase):
                 told = [length + longer * k for length, longer, many, _ in grown for _ in range(many)]
                 self.assertEqual(sorted(told), sorted(lengths))
 
+    def test_shifts(self):
+        for texts in TEXTS:
+            shifts = [shift for _, shift in lanes_of(Rule(texts))]
+            self.assertEqual(sum(shifts), 0)
+            self.assertEqual({shift % len(texts[0]) for shift in shifts}, {0})
+
+    def test_rings_far_from_the_ends_do_not_grow(self):
+        for texts in TEXTS:
+            rule = Rule(texts)
+            still = {rest: len(rests) for rests, shift in lanes_of(rule) if shift == 0 for rest in rests}
+            for n in (10 ** 4, 10 ** 4 + 1, HUGE, HUGE + 1):
+                for post in range(n // 2, n // 2 + rule.width):
+                    length = ring_length(rule, n, post)
+                    if post % rule.width in still:
+                        self.assertEqual(length, still[post % rule.width])
+                    else:
+                        self.assertGreater(length, n // 100)
+
     def test_more_by_the_lanes(self):
         for texts in TEXTS:
             rule = Rule(texts)
@@ -58,14 +79,18 @@ class GuaranteeTests(unittest.TestCase):
             for n in (1, 2, 5, 12, 31):
                 rungs = sum(plain_rung(texts, row, post) for row in range(len(texts)) for post in range(n - 1))
                 self.assertEqual((n - number_for(rule, n)) % 2, rungs % 2)
-        self.assertEqual((HUGE - number_for(Rule(["-.", ".-"]), HUGE)) % 2, 1)
+            for n in (1, 2, 3, 40, HUGE, HUGE - 1):
+                self.assertIs(is_even(rule, n), (n - number_for(rule, n)) % 2 == 0)
 
     def test_two_rules_that_do_the_same(self):
         rules = rules_of_size(2, 2) + rules_of_size(3, 1) + rules_of_size(3, 2)
         for one in rules:
             for other in rules:
                 bound = math.lcm(len(one[0]), len(other[0])) + 2 * max(len(one), len(other))
-                if all(plain_round(one, n) == plain_round(other, n) for n in range(1, bound + 1)):
+                same = all(plain_round(one, n) == plain_round(other, n) for n in range(1, bound + 1))
+                self.assertIs(same_round(Rule(one), Rule(other)), same)
+                self.assertIs(first_unlike(Rule(one), Rule(other)) is None, same)
+                if same:
                     self.assertEqual(plain_round(one, 60), plain_round(other, 60))
                     self.assertEqual(forms_of(Rule(one)), forms_of(Rule(other)))
 
