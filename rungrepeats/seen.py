@@ -1,7 +1,7 @@
 """Seen: rules that fit what was seen of walkers."""
 
 from rungrepeats.checks import check_number, check_positive, check_post, check_size
-from rungrepeats.far import place_after
+from rungrepeats.grounds import Ground
 from rungrepeats.marks import is_row
 from rungrepeats.rules import Rule
 
@@ -22,8 +22,9 @@ def _check_looks(looks):
 
 def _agrees(rule, looks):
     """Return True if a rule agrees with all looks, otherwise False."""
+    ground = Ground(rule)
     for n, rounds, post, end in looks:
-        if place_after(rule, n, post, rounds) != end:
+        if ground.after_rounds(n, post, rounds) != end:
             return False
     return True
 
@@ -59,12 +60,12 @@ def all_fitting(width, height, looks):
     return [rule for rule in _rules_of(width, height) if _agrees(rule, looks)]
 
 
-def _most_alike(rules, place):
-    """Return the greatest number of rules with one and the same end of a place."""
+def _most_alike(grounds, place):
+    """Return the greatest number of rules, told by their grounds, with one and the same end of a place."""
     n, rounds, post = place
     counted = {}
-    for rule in rules:
-        end = place_after(rule, n, post, rounds)
+    for ground in grounds:
+        end = ground.after_rounds(n, post, rounds)
         counted[end] = counted.get(end, 0) + 1
     return max(list(counted.values()), default=0)
 
@@ -78,5 +79,6 @@ def best_look(rules, places):
         _check_place(n, rounds, post)
     if len(places) == 0:
         return None
-    most = [_most_alike(rules, place) for place in places]
+    grounds = [Ground(rule) for rule in rules]
+    most = [_most_alike(grounds, place) for place in places]
     return places[most.index(min(most))]
